@@ -1,0 +1,1 @@
+"""Doubleledger: a book of accounts that always comes to nought."""
